@@ -455,31 +455,60 @@ func TestBoxOfAtItsLimits(t *testing.T) {
 		want impl.Box
 	}{
 		{[]impl.Point{{X: far - 1, Y: far - 1}}, impl.Box{X0: far - 1, Y0: far - 1, X1: far, Y1: far}},
+		{[]impl.Point{{X: far, Y: far}}, impl.Box{X0: far, Y0: far, X1: far + 1, Y1: far + 1}},
+		{[]impl.Point{{X: far}}, impl.Box{X0: far, X1: far + 1, Y1: 1}},
+		{[]impl.Point{{Y: far}}, impl.Box{Y0: far, X1: 1, Y1: far + 1}},
 		{[]impl.Point{{X: -far, Y: -far}}, impl.Box{X0: -far, Y0: -far, X1: -far + 1, Y1: -far + 1}},
-		{[]impl.Point{{X: far, Y: 5}, {X: 6, Y: far}}, impl.Box{X0: 6, Y0: 5, X1: far, Y1: far}},
+		{[]impl.Point{{X: far, Y: 5}, {X: 6, Y: far}}, impl.Box{X0: 6, Y0: 5, X1: far + 1, Y1: far + 1}},
 		{[]impl.Point{{X: -far, Y: 5}, {X: 6, Y: -far}}, impl.Box{X0: -far, Y0: -far, X1: 7, Y1: 6}},
-		{[]impl.Point{{X: far + 1, Y: 5}, {X: 6, Y: far + 1}}, impl.Box{X0: 6, Y0: 5, X1: far, Y1: far}},
-		{[]impl.Point{{X: -far - 1, Y: 5}, {X: 6, Y: -far - 1}}, impl.Box{X0: -far, Y0: -far, X1: 7, Y1: 6}},
-		{[]impl.Point{{X: math.MaxInt, Y: 5}, {X: 6, Y: math.MaxInt}}, impl.Box{X0: 6, Y0: 5, X1: far, Y1: far}},
-		{[]impl.Point{{X: math.MinInt, Y: 5}, {X: 6, Y: math.MinInt}}, impl.Box{X0: -far, Y0: -far, X1: 7, Y1: 6}},
-		{[]impl.Point{{X: math.MinInt, Y: math.MaxInt}, {X: math.MaxInt, Y: math.MinInt}}, impl.Box{X0: -far, Y0: -far, X1: far, Y1: far}},
-		{[]impl.Point{{X: far, Y: 5}}, impl.Box{X0: far, Y0: 5, X1: far, Y1: 6}},
-		{[]impl.Point{{X: 5, Y: math.MaxInt}}, impl.Box{X0: 5, Y0: far, X1: 6, Y1: far}},
-		{[]impl.Point{{X: -far - 1, Y: 5}}, impl.Box{X0: -far, Y0: 5, X1: -far, Y1: 6}},
-		{[]impl.Point{{X: 5, Y: math.MinInt}}, impl.Box{X0: 5, Y0: -far, X1: 6, Y1: -far}},
 	} {
 		checkBoxOf(t, c.list, c.want)
 	}
 }
 
+// A number past the limit counts as the limit, from where X1 and Y1 are one more as of any point.
+func TestBoxOfPastItsLimits(t *testing.T) {
+	const far = boxFar
+	for _, past := range []int{far + 1, far + 2, 2 * far, math.MaxInt - 1, math.MaxInt} {
+		checkBoxOf(t, []impl.Point{{X: past}}, impl.Box{X0: far, X1: far + 1, Y1: 1})
+		checkBoxOf(t, []impl.Point{{X: 5, Y: past}}, impl.Box{X0: 5, Y0: far, X1: 6, Y1: far + 1})
+		checkBoxOf(t, []impl.Point{{X: past, Y: 5}, {X: 6, Y: past}}, impl.Box{X0: 6, Y0: 5, X1: far + 1, Y1: far + 1})
+	}
+	for _, past := range []int{-far - 1, -far - 2, -2 * far, math.MinInt + 1, math.MinInt} {
+		checkBoxOf(t, []impl.Point{{X: past}}, impl.Box{X0: -far, X1: -far + 1, Y1: 1})
+		checkBoxOf(t, []impl.Point{{X: 5, Y: past}}, impl.Box{X0: 5, Y0: -far, X1: 6, Y1: -far + 1})
+		checkBoxOf(t, []impl.Point{{X: past, Y: 5}, {X: 6, Y: past}}, impl.Box{X0: -far, Y0: -far, X1: 7, Y1: 6})
+	}
+	checkBoxOf(t, []impl.Point{{X: 1, Y: 2}, {X: math.MaxInt, Y: math.MinInt}}, impl.Box{X0: 1, Y0: -far, X1: far + 1, Y1: 3})
+	checkBoxOf(t, []impl.Point{{X: math.MinInt, Y: math.MaxInt}, {X: math.MaxInt, Y: math.MinInt}}, impl.Box{X0: -far, Y0: -far, X1: far + 1, Y1: far + 1})
+}
+
 func TestBoxOfByNumbersWithoutALimit(t *testing.T) {
+	within := func(n int) int { return sumWithinBoxFar(n, 0) }
 	for _, x := range boxEdges {
 		for _, y := range boxEdges {
-			checkBoxOf(t, []impl.Point{{X: x, Y: y}}, impl.Box{X0: sumWithinBoxFar(x, 0), Y0: sumWithinBoxFar(y, 0), X1: sumWithinBoxFar(x, 1), Y1: sumWithinBoxFar(y, 1)})
+			checkBoxOf(t, []impl.Point{{X: x, Y: y}}, impl.Box{X0: within(x), Y0: within(y), X1: within(x) + 1, Y1: within(y) + 1})
 			for _, other := range boxEdges {
-				low, high := sumWithinBoxFar(min(x, other), 0), sumWithinBoxFar(max(x, other), 1)
-				checkBoxOf(t, []impl.Point{{X: x, Y: y}, {X: other, Y: y}}, impl.Box{X0: low, Y0: sumWithinBoxFar(y, 0), X1: high, Y1: sumWithinBoxFar(y, 1)})
-				checkBoxOf(t, []impl.Point{{X: y, Y: x}, {X: y, Y: other}}, impl.Box{X0: sumWithinBoxFar(y, 0), Y0: low, X1: sumWithinBoxFar(y, 1), Y1: high})
+				low, high := within(min(x, other)), within(max(x, other))+1
+				checkBoxOf(t, []impl.Point{{X: x, Y: y}, {X: other, Y: y}}, impl.Box{X0: low, Y0: within(y), X1: high, Y1: within(y) + 1})
+				checkBoxOf(t, []impl.Point{{X: y, Y: x}, {X: y, Y: other}}, impl.Box{X0: within(y), Y0: low, X1: within(y) + 1, Y1: high})
+			}
+		}
+	}
+}
+
+// The box is never empty, and has each point, as far as it counts.
+func TestPromise5BoxOfHasEachPoint(t *testing.T) {
+	for _, x := range boxEdges {
+		for _, y := range boxEdges {
+			list := []impl.Point{{X: x, Y: y}, {X: y, Y: x}, {X: x, Y: 3}, {X: 3, Y: y}}
+			for n := range list {
+				around := impl.BoxOf(list[:n+1])
+				for _, p := range list[:n+1] {
+					if counts := (impl.Point{X: sumWithinBoxFar(p.X, 0), Y: sumWithinBoxFar(p.Y, 0)}); !impl.InBox(around, counts) {
+						t.Fatalf("BoxOf(%v) = %v has not %v", list[:n+1], around, counts)
+					}
+				}
 			}
 		}
 	}
