@@ -442,30 +442,30 @@ func TestFlatOfWhatIsWrong(t *testing.T) {
 	}
 }
 
-// What is written into one list, up to the end of its room, is seen in no other one and not in the path.
+// What is written into one list, up to the end of its room, is seen in no other one.
+func checkNoSharedRoom(t *testing.T, lines [][]impl.Point, want [][]impl.Point) {
+	t.Helper()
+	now := slices.Clone(want)
+	for written, line := range lines {
+		mark := impl.Point{X: 1<<40 + written, Y: written}
+		room := line[:cap(line)]
+		for i := range room {
+			room[i] = mark
+		}
+		now[written] = slices.Repeat([]impl.Point{mark}, len(line))
+		if !sameLines(lines, now) {
+			t.Errorf("list %d was written, the lists are %v, want %v", written, lines, now)
+		}
+	}
+}
+
 func TestFlatOfAnswersInNewMemory(t *testing.T) {
 	verbs := []int{1, 2, 2, 5, 1, 3, 1, 4, 5, 77}
 	points := append(dots(10), impl.Point{X: 900, Y: 901})
 	roomOfVerbs, roomOfPoints := slices.Clone(verbs), slices.Clone(points)
 	p := impl.Path{Verbs: verbs[:9], Points: points[:10]}
 	want := linesByCuts(p)
-	lines := impl.FlatOf(p)
-	for written := range lines {
-		room := lines[written][:cap(lines[written])]
-		for i := range room {
-			room[i] = impl.Point{X: 99, Y: 99}
-		}
-		for other := written + 1; other < len(lines); other++ {
-			if !slices.Equal(lines[other], want[other]) {
-				t.Errorf("list %d wrote into list %d: %v", written, other, lines[other])
-			}
-		}
-		for other := range written {
-			if slices.ContainsFunc(lines[other], func(q impl.Point) bool { return q != (impl.Point{X: 99, Y: 99}) }) {
-				t.Errorf("list %d wrote into list %d: %v", written, other, lines[other])
-			}
-		}
-	}
+	checkNoSharedRoom(t, impl.FlatOf(p), want)
 	if !slices.Equal(verbs, roomOfVerbs) || !slices.Equal(points, roomOfPoints) {
 		t.Errorf("the path's room became %v, %v", verbs, points)
 	}
