@@ -133,7 +133,7 @@ func checkCountOf(t *testing.T, bits int, want int) {
 	}
 }
 
-func backwards(list []impl.Point) []impl.Point {
+func backwards[T any](list []T) []T {
 	turned := slices.Clone(list)
 	slices.Reverse(turned)
 	return turned
